@@ -1,0 +1,1 @@
+"""An office's list of things, and what they are called in both tongues."""
