@@ -1,15 +1,20 @@
 """The calls about one list of things, one behind another."""
 
 from rightnames.checking import check_translation
+from rightnames.lookup import tell_best, tell_named, tell_things
 from rightnames.marking import tell_marks
 from rightnames.reader import NumberReader
-from rightnames.terms import TermList, add_thing, drop_thing, tell_doubles
+from rightnames.terms import TermList, add_thing, drop_thing, tell_doubles, undo_change
 
 THING = 0
 GONE = 1
 MARKS = 2
 CHECK = 3
 DOUBLES = 4
+BEST_FORM = 5
+THINGS = 6
+UNDO = 7
+NAMED = 8
 
 
 class UnknownCall(ValueError):
@@ -29,6 +34,14 @@ def answer_call(terms, reader):
         return check_translation(terms, sentence, reader.take_row())
     if call == DOUBLES:
         return tell_doubles(terms)
+    if call == BEST_FORM:
+        return tell_best(terms, reader.take())
+    if call == THINGS:
+        return tell_things(terms)
+    if call == UNDO:
+        return undo_change(terms)
+    if call == NAMED:
+        return tell_named(terms, reader.take_row())
     raise UnknownCall(f"no call has the number {call}")
 
 

@@ -4,6 +4,8 @@
 NOT_FITTING = 1
 NO_SUCH_THING = 2
 TOO_MANY_THINGS = 5
+NO_RIGHT_FORM = 6
+NOTHING_TO_UNDO = 7
 
 
 def refusal(cause):

@@ -1,9 +1,11 @@
-"""The list of things: what it keeps, and how a thing comes into it and goes."""
+"""The list of things: what it keeps, and how a thing comes into it and goes, and how that is undone."""
 
 from rightnames.reader import NumberReader
-from rightnames.refusals import NO_SUCH_THING, NOT_FITTING, TOO_MANY_THINGS, refusal
+from rightnames.refusals import NO_SUCH_THING, NOT_FITTING, NOTHING_TO_UNDO, TOO_MANY_THINGS, refusal
 from rightnames.words import is_form
 
+BEST = 0
+ALLOWED = 1
 FORBIDDEN = 2
 MOST_THINGS = 8
 MOST_SOURCE_FORMS = 3
@@ -28,11 +30,16 @@ class Thing:
     def forbids(self, form):
         return form in self.standings and self.standings[form] == FORBIDDEN
 
+    def target_forms_that_are(self, standing):
+        return [form for form in self.standings if self.standings[form] == standing]
+
 
 class TermList:
     def __init__(self):
         self.kept = []
-        # Counted apart from what is kept: a number is not given again when its thing is gone.
+        # The lists ahead of each thing or gone that isn't undone, the newest last.
+        self.kept_before = []
+        # Counted apart from what is kept: a number is not given again when its thing is gone or undone.
         self.numbers_given = 0
 
 
@@ -65,6 +72,12 @@ def target_forms_fit(pairs):
     return len(pairs) <= MOST_TARGET_FORMS and standings_fit and are_forms([form for form, standing in pairs])
 
 
+def change_list(terms, things):
+    # Things come as a new list: the one that was kept so far stays as it is, for undo to bring back.
+    terms.kept_before.append(terms.kept)
+    terms.kept = things
+
+
 def add_thing(terms, told):
     reader = NumberReader(told)
     source_forms = read_source_forms(reader)
@@ -75,7 +88,7 @@ def add_thing(terms, told):
         return refusal(TOO_MANY_THINGS)
     number = terms.numbers_given
     terms.numbers_given = number + 1
-    terms.kept = terms.kept + [Thing(number, source_forms, target_pairs)]
+    change_list(terms, terms.kept + [Thing(number, source_forms, target_pairs)])
     return [number]
 
 
@@ -83,8 +96,15 @@ def drop_thing(terms, number):
     left = [thing for thing in terms.kept if thing.number != number]
     if len(left) == len(terms.kept):
         return refusal(NO_SUCH_THING)
-    terms.kept = left
+    change_list(terms, left)
     return [len(left)]
+
+
+def undo_change(terms):
+    if len(terms.kept_before) == 0:
+        return refusal(NOTHING_TO_UNDO)
+    terms.kept = terms.kept_before.pop()
+    return [len(terms.kept)]
 
 
 def all_source_forms(terms):
@@ -113,6 +133,11 @@ def numbered(things):
     return [len(things)] + [thing.number for thing in things]
 
 
+def spelled(form):
+    # A form in an answer: how many words, then they.
+    return [len(form)] + list(form)
+
+
 def tell_doubles(terms):
     answer = []
     count = 0
@@ -120,5 +145,5 @@ def tell_doubles(terms):
         things = things_meant(terms, form)
         if len(things) > 1:
             count = count + 1
-            answer = answer + [len(form)] + list(form) + numbered(things)
+            answer = answer + spelled(form) + numbered(things)
     return [count] + answer

@@ -38,6 +38,22 @@ def doubles():
     return [4]
 
 
+def best(number):
+    return [5, number]
+
+
+def things():
+    return [6]
+
+
+def undo():
+    return [7]
+
+
+def named(form):
+    return [8] + row(form)
+
+
 def split(numbers):
     parts = []
     place = 0

@@ -1,4 +1,7 @@
-"""The part of the language rules that can be read off the package's files."""
+"""The part of the language rules that can be read off the package's files.
+
+Where a rule allows more than the package needs, the narrower is asked here.
+"""
 
 import ast
 import builtins
@@ -19,16 +22,27 @@ METHODS_ALLOWED = set(
     " items join keys ljust lower lstrip partition pop remove replace reverse rfind rjust rpartition rsplit rstrip"
     " setdefault split splitlines startswith strip update upper values zfill bit_length".split()
 )
-NODES_REFUSED = (
-    ast.With, ast.Delete, ast.Global, ast.Nonlocal, ast.Assert, ast.Yield, ast.YieldFrom, ast.Await, ast.Match,
-    ast.AsyncFunctionDef, ast.AsyncFor, ast.AsyncWith, ast.SetComp, ast.DictComp, ast.GeneratorExp, ast.NamedExpr,
-    ast.Starred, ast.Div, ast.AnnAssign, ast.Import,
+NODES_ALLOWED = (
+    ast.Module, ast.ImportFrom, ast.alias, ast.FunctionDef, ast.Lambda, ast.arguments, ast.arg, ast.ClassDef,
+    ast.Assign, ast.AugAssign, ast.If, ast.While, ast.For, ast.Return, ast.Break, ast.Continue, ast.Pass, ast.Raise,
+    ast.Expr, ast.Constant, ast.List, ast.Tuple, ast.Dict, ast.Name, ast.Attribute, ast.Subscript, ast.Slice, ast.Call,
+    ast.keyword, ast.ListComp, ast.comprehension, ast.JoinedStr, ast.FormattedValue, ast.IfExp, ast.Compare, ast.cmpop,
+    ast.BoolOp, ast.boolop, ast.UnaryOp, ast.unaryop, ast.BinOp, ast.Add, ast.Sub, ast.Mult, ast.FloorDiv, ast.Mod,
+    ast.LShift, ast.RShift, ast.BitOr, ast.BitAnd, ast.BitXor, ast.expr_context,
 )
 WORDS_REFUSED = re.compile(
     r"\b(type|typing|typing_extensions|enum|Enum|IntEnum|StrEnum|Flag|IntFlag|Generic|Protocol|ABC|ABCMeta|namedtuple"
     r"|NamedTuple|TypedDict|TYPE_CHECKING|abstractmethod)\b|dataclass|overload|contextmanager"
 )
-DUNDERS_ALLOWED = {"__init__", "__eq__", "__repr__", "__str__", "__len__"}
+NAMES_REFUSED = set(
+    "register mro elements open input version_info with_traceback add_note attrgetter breakpoint builtins compile"
+    " copyright credits delattr dir eval exec exit gc getattr globals hasattr help id importlib license locals"
+    " methodcaller os quit setattr super type vars sys format format_map chr".split()
+)
+VALUES_ALLOWED = set("count index title find get join lower upper split strip copy add".split())
+KEYWORDS_ALLOWED = {("sorted", "key"), ("min", "key"), ("max", "key"), ("min", "default"), ("max", "default")}
+WALKED_AT_ONCE = set("zip enumerate reversed range items keys values".split())
+WALKERS = set("list tuple dict sorted sum any all enumerate zip min max".split())
 
 
 def trees():
@@ -37,6 +51,15 @@ def trees():
 
 def nodes(kinds):
     return [(path, node) for path, tree in trees() for node in ast.walk(tree) if isinstance(node, kinds)]
+
+
+def called(call):
+    return call.func.attr if isinstance(call.func, ast.Attribute) else getattr(call.func, "id", "")
+
+
+def names_defined(tree):
+    defined = [node.name for node in tree.body if isinstance(node, (ast.FunctionDef, ast.ClassDef))]
+    return defined + [node.targets[0].id for node in tree.body if isinstance(node, ast.Assign)]
 
 
 class Files(unittest.TestCase):
@@ -61,9 +84,9 @@ class Files(unittest.TestCase):
 
 
 class Code(unittest.TestCase):
-    def test_refused_forms(self):
-        for path, node in nodes(NODES_REFUSED):
-            self.fail(f"{path.name}:{node.lineno}: {ast.dump(node)[:60]}")
+    def test_only_allowed_forms(self):
+        for path, node in nodes(ast.AST):
+            self.assertIsInstance(node, NODES_ALLOWED, path)
 
     def test_functions(self):
         for path, node in nodes(ast.FunctionDef):
@@ -71,12 +94,85 @@ class Code(unittest.TestCase):
             self.assertLessEqual(node.end_lineno - node.lineno + 1, 40, where)
             self.assertEqual(node.decorator_list, [], where)
             self.assertFalse(node.args.vararg or node.args.kwarg or node.args.kwonlyargs, where)
+            self.assertEqual(node.args.posonlyargs + node.args.defaults, [], where)
+            self.assertEqual([part.annotation for part in node.args.args if part.annotation], [], where)
+            self.assertIsNone(node.returns, where)
 
     def test_imports_are_the_packages_own(self):
         for path, node in nodes(ast.ImportFrom):
             self.assertEqual(node.level, 0, path)
             self.assertTrue(node.module.startswith("rightnames."), path)
             self.assertTrue(all(alias.name != "*" and alias.asname is None for alias in node.names), path)
+
+    def test_no_two_files_draw_from_one_another(self):
+        drawn = {
+            f"rightnames.{path.stem}": {node.module for node in ast.walk(tree) if isinstance(node, ast.ImportFrom)}
+            for path, tree in trees()
+        }
+        while drawn:
+            free = [name for name in drawn if not drawn[name] & set(drawn)]
+            self.assertTrue(free, drawn)
+            drawn = {name: drawn[name] for name in drawn if name not in free}
+
+    def test_imports_are_from_the_file_that_defines_the_name(self):
+        for path, node in nodes(ast.ImportFrom):
+            tree = ast.parse((PACKAGE / f"{node.module.split('.')[1]}.py").read_text(encoding="utf-8"))
+            self.assertLessEqual({alias.name for alias in node.names}, set(names_defined(tree)), path)
+
+    def test_the_top_of_a_file(self):
+        for path, tree in trees():
+            self.assertIsNotNone(ast.get_docstring(tree), path)
+            for node in tree.body[1:]:
+                self.assertIsInstance(node, (ast.ImportFrom, ast.FunctionDef, ast.ClassDef, ast.Assign), path)
+                if isinstance(node, ast.Assign):
+                    self.assertIsInstance(node.value, ast.Constant, f"{path.name}:{node.lineno}")
+            defined = names_defined(tree)
+            self.assertEqual(sorted(set(defined)), sorted(defined), path)
+
+    def test_classes(self):
+        for path, node in nodes(ast.ClassDef):
+            where = f"{path.name}:{node.lineno}"
+            self.assertFalse(node.decorator_list or node.keywords or len(node.bases) > 1, where)
+            for part in node.body:
+                self.assertIsInstance(part, (ast.FunctionDef, ast.Pass), where)
+            methods = [part.name for part in node.body if isinstance(part, ast.FunctionDef)]
+            self.assertEqual(sorted(set(methods)), sorted(methods), where)
+
+    def test_texts(self):
+        for path, node in nodes(ast.Constant):
+            if isinstance(node.value, str):
+                self.assertNotIn("%", node.value, f"{path.name}:{node.lineno}")
+        for path, node in nodes(ast.FormattedValue):
+            self.assertIsInstance(node.value, ast.Name, f"{path.name}:{node.lineno}")
+            self.assertIsNone(node.format_spec, f"{path.name}:{node.lineno}")
+
+    def test_keywords(self):
+        for path, node in nodes(ast.Call):
+            for keyword in node.keywords:
+                self.assertIn((called(node), keyword.arg), KEYWORDS_ALLOWED, f"{path.name}:{node.lineno}")
+
+    def test_walked_at_once(self):
+        walked = set()
+        for path, tree in trees():
+            for node in ast.walk(tree):
+                if isinstance(node, (ast.For, ast.comprehension)):
+                    walked.add((path, ast.dump(node.iter, include_attributes=True)))
+                if isinstance(node, ast.Call) and called(node) in WALKERS and node.args:
+                    walked.add((path, ast.dump(node.args[0], include_attributes=True)))
+        for path, node in nodes(ast.Call):
+            if called(node) in WALKED_AT_ONCE:
+                where = f"{path.name}:{node.lineno}"
+                self.assertIn((path, ast.dump(node, include_attributes=True)), walked, where)
+
+    def test_a_set_stands_in_len_or_sorted_alone(self):
+        inner = []
+        for path, node in nodes(ast.Call):
+            if called(node) in ("len", "sorted") and node.args:
+                inner.append((path, ast.dump(node.args[0], include_attributes=True)))
+        for path, node in nodes(ast.Call):
+            if called(node) in ("set", "frozenset"):
+                where = f"{path.name}:{node.lineno}"
+                self.assertIn((path, ast.dump(node, include_attributes=True)), inner, where)
 
     def test_one_target_and_no_else_behind_a_loop(self):
         for path, node in nodes(ast.Assign):
@@ -111,7 +207,7 @@ class Names(unittest.TestCase):
 
     def test_names_of_functions_and_parameters(self):
         for path, node in nodes(ast.FunctionDef):
-            if node.name not in DUNDERS_ALLOWED:
+            if node.name != "__init__":
                 self.assertFalse(node.name.startswith("_"), f"{path.name}:{node.lineno}")
         for path, node in nodes(ast.arg):
             self.assertNotIn(node.arg, dir(builtins), f"{path.name}:{node.lineno}")
@@ -134,6 +230,21 @@ class Names(unittest.TestCase):
         for path, node in nodes(ast.Call):
             if isinstance(node.func, ast.Attribute):
                 self.assertIn(node.func.attr, own | METHODS_ALLOWED, f"{path.name}:{node.lineno}")
+
+    def test_names_that_are_not_used(self):
+        for path, node in nodes((ast.Name, ast.Attribute, ast.FunctionDef, ast.ClassDef, ast.arg, ast.alias)):
+            for field in ("id", "attr", "name", "arg"):
+                self.assertNotIn(getattr(node, field, ""), NAMES_REFUSED, path)
+
+    def test_own_methods_and_values(self):
+        taken = {name for kind in (str, int, list, tuple, dict, set, bytes) for name in dir(kind)}
+        for path, node in nodes(ast.ClassDef):
+            for part in node.body:
+                if isinstance(part, ast.FunctionDef) and part.name != "__init__":
+                    self.assertNotIn(part.name, taken, f"{path.name}:{part.lineno}")
+        for path, node in nodes(ast.Attribute):
+            if isinstance(node.ctx, ast.Store):
+                self.assertNotIn(node.attr, taken - VALUES_ALLOWED, f"{path.name}:{node.lineno}")
 
     def test_no_name_is_a_method_and_a_value(self):
         methods = {
